@@ -1,0 +1,28 @@
+"""Items with usual parts, for the tests."""
+
+from byteshape.errors import InvalidShape
+from byteshape.shapes import Shape
+
+
+def number(name="n", size=1, order="big", low=0, high=9):
+    """A number."""
+    return ("number", name, size, order, low, high)
+
+
+def some(name="b", length=1):
+    """Bytes."""
+    return ("bytes", name, length)
+
+
+def shape(*items):
+    """The shape of these items."""
+    return Shape(list(items))
+
+
+def is_valid(*items):
+    """Tells whether these items make a shape."""
+    try:
+        Shape(items)
+    except InvalidShape:
+        return False
+    return True

@@ -1,0 +1,156 @@
+"""The rules of the language that can be seen from the code of the package alone."""
+
+import ast
+import builtins
+import pathlib
+import re
+import unittest
+
+FOLDER = pathlib.Path(__file__).resolve().parent.parent / "byteshape"
+FILES = sorted(path for path in FOLDER.rglob("*.py"))
+OF_PYTHON = [name for name in dir(builtins) if name[0] != "_"]
+USED_BUILTINS = set("""len range enumerate zip min max sum abs sorted reversed int str bool list tuple dict set isinstance ord
+    repr any all divmod ValueError super property""".split())
+METHODS = set("""append clear copy count endswith extend find get index insert isalnum isalpha isdigit islower isspace isupper items
+    join keys ljust lower lstrip partition pop remove replace reverse rfind rjust rpartition rsplit rstrip setdefault split
+    splitlines startswith strip update upper values zfill bit_length add discard""".split())
+BARRED = set("""register mro elements open input law version_info with_traceback add_note attrgetter breakpoint builtins compile
+    copyright credits delattr dir eval exec exit gc globals help id importlib license locals methodcaller os quit setattr type vars
+    sys""".split())
+NODES = (ast.Global, ast.AsyncFunctionDef, ast.AsyncFor, ast.AsyncWith, ast.Await, ast.Delete, ast.Assert, ast.Lambda, ast.With,
+         ast.Div, ast.Set, ast.SetComp, ast.GeneratorExp, ast.NamedExpr, ast.Nonlocal, ast.AnnAssign, ast.YieldFrom)
+ALLOWED_NODES = (ast.Delete, ast.Assert, ast.Lambda)
+
+
+def parsed(path):
+    """The tree of a file."""
+    return ast.parse(path.read_text(encoding="utf-8"))
+
+
+def bound_names(tree):
+    """All names that a file binds anywhere."""
+    for node in ast.walk(tree):
+        if isinstance(node, ast.Name) and isinstance(node.ctx, ast.Store):
+            yield node.id
+        elif isinstance(node, ast.arg):
+            yield node.arg
+        elif isinstance(node, (ast.FunctionDef, ast.ClassDef)):
+            yield node.name
+
+
+class LanguageTest(unittest.TestCase):
+    def each(self):
+        return [(path, parsed(path)) for path in FILES]
+
+    def test_files(self):
+        self.assertTrue(FILES)
+        for path in FOLDER.rglob("*"):
+            if "__pycache__" not in path.parts:
+                self.assertRegex(path.name, r"^[a-z_0-9]+\.py$")
+        self.assertEqual((FOLDER / "__init__.py").read_text(encoding="utf-8"), "")
+
+    def test_size_and_characters(self):
+        for path in FILES:
+            text = path.read_text(encoding="utf-8")
+            lines = text.split("\n")
+            self.assertLessEqual(len(lines), 400, path)
+            self.assertIsNone(re.search("[^ -~\n]", text), path)
+            self.assertLessEqual(max(len(line) for line in lines), 120, path)
+
+    def test_functions(self):
+        for path, tree in self.each():
+            for node in ast.walk(tree):
+                if isinstance(node, ast.FunctionDef):
+                    self.assertLessEqual(node.end_lineno - node.lineno + 1, 40, node.name)
+                    for decorator in node.decorator_list:
+                        self.assertEqual(ast.unparse(decorator), "property")
+                if isinstance(node, ast.ClassDef):
+                    self.assertEqual(node.decorator_list, [])
+
+    def test_imports(self):
+        wanted = {}
+        for path, tree in self.each():
+            found = []
+            for node in ast.walk(tree):
+                self.assertNotIsInstance(node, ast.Import)
+                if isinstance(node, ast.ImportFrom):
+                    self.assertIn(node, tree.body)
+                    self.assertRegex(node.module, r"^byteshape\.[a-z]+$")
+                    source = FOLDER / (node.module.split(".")[1] + ".py")
+                    self.assertLessEqual({name.name for name in node.names}, self.defined(parsed(source)), node.module)
+                    found.append(source.name)
+            wanted[path.name] = found
+        done = []
+        while len(done) < len(wanted):
+            ready = [name for name in wanted if name not in done and all(one in done for one in wanted[name])]
+            self.assertTrue(ready, "files import each other")
+            done.extend(ready)
+
+    def defined(self, tree):
+        """The names that a file defines itself at module level."""
+        found = set()
+        for node in tree.body:
+            if isinstance(node, (ast.FunctionDef, ast.ClassDef)):
+                found.add(node.name)
+            if isinstance(node, ast.Assign):
+                found.add(node.targets[0].id)
+        return found
+
+    def test_module_level(self):
+        for path, tree in self.each():
+            for node in tree.body:
+                docstring = isinstance(node, ast.Expr) and node is tree.body[0]
+                self.assertTrue(docstring or isinstance(node, (ast.ImportFrom, ast.FunctionDef, ast.ClassDef, ast.Assign)))
+                if isinstance(node, ast.Assign):
+                    self.assertEqual(len(node.targets), 1)
+                    self.assertIsInstance(node.targets[0], ast.Name)
+                    self.assertFalse([one for one in ast.walk(node.value) if isinstance(one, (ast.Call, ast.ListComp))])
+
+    def test_names(self):
+        for path, tree in self.each():
+            for name in bound_names(tree):
+                self.assertTrue(re.match(r"^_?[A-Za-z][A-Za-z0-9_]*$|^_$|^__init__$", name), name)
+                self.assertNotIn(name, OF_PYTHON)
+                self.assertNotIn(name, BARRED)
+
+    def test_nodes(self):
+        for path, tree in self.each():
+            for node in ast.walk(tree):
+                if not isinstance(node, ALLOWED_NODES):
+                    self.assertNotIsInstance(node, NODES)
+
+    def test_builtins_and_methods(self):
+        own = {name for path in FILES for name in bound_names(parsed(path))}
+        for path, tree in self.each():
+            for node in ast.walk(tree):
+                if isinstance(node, ast.Name) and node.id in OF_PYTHON:
+                    self.assertIn(node.id, USED_BUILTINS)
+                if isinstance(node, ast.Call) and isinstance(node.func, ast.Attribute):
+                    self.assertTrue(node.func.attr in METHODS or node.func.attr in own or node.func.attr == "__init__")
+
+    def test_strings(self):
+        for path, tree in self.each():
+            for node in ast.walk(tree):
+                if isinstance(node, ast.Constant) and isinstance(node.value, str):
+                    self.assertNotIn("%", node.value)
+                if isinstance(node, ast.Constant):
+                    self.assertNotIsInstance(node.value, (float, complex, bytes))
+
+    def test_is(self):
+        for path, tree in self.each():
+            for node in ast.walk(tree):
+                if isinstance(node, ast.Compare) and isinstance(node.ops[0], (ast.Is, ast.IsNot)):
+                    self.assertIsInstance(node.comparators[0], ast.Constant)
+
+    def test_handlers(self):
+        for path, tree in self.each():
+            own = self.defined(parsed(FOLDER / "errors.py"))
+            for node in ast.walk(tree):
+                if isinstance(node, ast.ExceptHandler):
+                    self.assertIn(node.type.id, own)
+                if isinstance(node, ast.Raise):
+                    self.assertIn(node.exc.func.id, own)
+
+
+if __name__ == "__main__":
+    unittest.main()
