@@ -407,6 +407,19 @@ class EditsTest(unittest.TestCase):
         self.assertEqual(made.parts[:2], self.shape.parts[:2])
         self.assertEqual(made.item("s")[3], ((0, (some("c"),)), (1, (("repeat", "q", 2, (some("d", 5), some("h"))),))))
 
+    def test_at_depth_three(self):
+        inner = ("switch", "s", "n", [(3, [some("x"), some("y")]), (5, [])])
+        made = shape(number(), ("repeat", "r", 2, [some("a"), ("either", "e", [[inner], [some("b")]])]))
+        self.assertEqual(made.depth("x"), 3)
+        changed = made.with_item("x", some("z", "n"))
+        self.assertEqual(changed.item("s"), ("switch", "s", "n", ((3, (some("z", "n"), some("y"))), (5, ()))))
+        self.assertEqual(changed.names, ("n", "r", "a", "e", "s", "z", "y", "b"))
+        self.assertEqual(made.without_item("y").item("s"), ("switch", "s", "n", ((3, (some("x"),)), (5, ()))))
+        for item in (("repeat", "x", 2, [some("z")]), some("y"), some("x", "m"), some("x", 65)):
+            with self.assertRaises(InvalidShape):
+                made.with_item("x", item)
+        self.assertEqual(made.item("s")[3][0], (3, (some("x"), some("y"))))
+
     def test_replacing_by_a_broken_item(self):
         for item in (some("a"), some("r"), ("bytes", "x", 65), ("bytes", "X", 1), ("byte", "x", 1), ["bytes", "x", 1], None,
                      ("bytes", "x", "none"), ("either", "x", [[], []])):
