@@ -100,7 +100,7 @@ class Layout:
         found = []
         for one in self._around(at):
             last = self.blocks[self.block[one]][-1]
-            found.extend(range(self.behind[one], self.behind[last]))
+            found.extend(list(range(self.behind[one], self.behind[last])))
         return found
 
     def _again(self, at, more):
@@ -108,7 +108,7 @@ class Layout:
         found = []
         for repeat, follows in zip(self.repeats[at], more):
             if follows:
-                found.extend(range(repeat + 1, self.behind[repeat]))
+                found.extend(list(range(repeat + 1, self.behind[repeat])))
         return found
 
     def _numbers_asked(self, at, later, more):

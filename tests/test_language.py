@@ -20,6 +20,10 @@ BARRED = set("""register mro elements open input law version_info with_traceback
 NODES = (ast.Global, ast.AsyncFunctionDef, ast.AsyncFor, ast.AsyncWith, ast.Await, ast.Delete, ast.Assert, ast.Lambda, ast.With,
          ast.Div, ast.Set, ast.SetComp, ast.GeneratorExp, ast.NamedExpr, ast.Nonlocal, ast.AnnAssign, ast.YieldFrom)
 ALLOWED_NODES = (ast.Delete, ast.Assert, ast.Lambda)
+# What is walked on the spot (L23): these calls stand only where they are walked through at once.
+AT_ONCE = ("range", "zip", "enumerate", "reversed")
+VIEWS = ("items", "keys", "values")
+WALKERS = ("list", "tuple", "dict", "sorted", "sum", "any", "all", "enumerate", "zip", "bytes")
 
 
 def parsed(path):
@@ -36,6 +40,50 @@ def bound_names(tree):
             yield node.arg
         elif isinstance(node, (ast.FunctionDef, ast.ClassDef)):
             yield node.name
+
+
+def called(node):
+    """The name of the builtin, or of the method, that is called; None for anything else."""
+    if not isinstance(node, ast.Call):
+        return None
+    return node.func.id if isinstance(node.func, ast.Name) else getattr(node.func, "attr", None)
+
+
+def is_walked_at_once(node):
+    """Whether this is a call whose answer is not stored."""
+    if not isinstance(node, ast.Call):
+        return False
+    names = AT_ONCE if isinstance(node.func, ast.Name) else VIEWS
+    return called(node) in names
+
+
+def walks(call, node):
+    """Whether L23 lists that this call walks through this part of it."""
+    name = called(call)
+    if isinstance(call.func, ast.Attribute):
+        return name == "join" and isinstance(call.func.value, ast.Constant)
+    if name in WALKERS:
+        return node is call.args[0]
+    if name in ("min", "max"):
+        return len(call.args) == 1 and [word.arg for word in call.keywords] in ([], ["default"])
+    if name == "len":
+        return called(node) in ("range",) + VIEWS
+    return name == "reversed" and called(node) == "range"
+
+
+def stored(tree):
+    """The lines of the calls that L23 wants walked at once, and that stand somewhere else."""
+    found = []
+    for node in ast.walk(tree):
+        for part in ast.iter_child_nodes(node):
+            if not is_walked_at_once(part):
+                continue
+            fits = isinstance(node, (ast.For, ast.comprehension)) and part is node.iter
+            fits = fits or isinstance(node, ast.Call) and part in node.args and walks(node, part)
+            fits = fits or isinstance(node, ast.Compare) and isinstance(node.ops[0], (ast.In, ast.NotIn)) and part is not node.left
+            if not fits:
+                found.append(part.lineno)
+    return found
 
 
 class LanguageTest(unittest.TestCase):
@@ -141,6 +189,20 @@ class LanguageTest(unittest.TestCase):
             for node in ast.walk(tree):
                 if isinstance(node, ast.Compare) and isinstance(node.ops[0], (ast.Is, ast.IsNot)):
                     self.assertIsInstance(node.comparators[0], ast.Constant)
+
+    def test_walked_at_once(self):
+        for path, tree in self.each():
+            self.assertEqual(stored(tree), [], path)
+
+    def test_what_is_walked_at_once(self):
+        for text in ("found.extend(range(5))", "found.extend(a.items())", "x.update(zip(a, b))", "take(d.values())", "set(d.keys())",
+                     "list(zip(a, range(5)))", "k = range(5)", "list(reversed(zip(a, b)))", "len(zip(a, b))", "max(0, range(5))",
+                     "take(*range(5))", "take(x=enumerate(a))", "word.join(d.keys())", "max(d.values(), key=len)", "range(3) == a"):
+            self.assertEqual(stored(ast.parse(text)), [1], text)
+        for text in ("found.extend(list(range(5)))", "for k in range(5): pass", "[k for k, v in d.items()]", "dict(zip(a, b))",
+                     "len(d.items())", "for k in reversed(range(5)): pass", "max(d.values(), default=0)", "''.join(d.keys())",
+                     "k in d.keys()", "list(enumerate(zip(a, b)))", "sorted(reversed(a))"):
+            self.assertEqual(stored(ast.parse(text)), [], text)
 
     def test_handlers(self):
         for path, tree in self.each():
