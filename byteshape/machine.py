@@ -50,6 +50,7 @@ class Machine:
         self._told = [part[1] in names for part in self._layout.parts]
         self._asked = [told or self._layout.is_used(at) for at, told in enumerate(self._told)]
         self._labels = {}
+        self._sets = {}
 
     def start(self):
         """The entries (state, choices) before the first byte."""
@@ -87,9 +88,21 @@ class Machine:
             return None
         return self._layout.parts[state[0]][1]
 
+    def position(self, state):
+        """Where the item that waits stands among the names of the shape, and how far it is.
+
+        A done state stands behind the last name.
+        """
+        if state[0] == NOBODY:
+            return (len(self._layout.parts), FRESH)
+        return (state[0], state[2])
+
     def classes(self, state):
         """The sets of bytes of a state."""
-        return sets_of(self.labels(state))
+        labels = self.labels(state)
+        if labels not in self._sets:
+            self._sets[labels] = sets_of(labels)
+        return list(self._sets[labels])
 
     def labels(self, state):
         """A tuple of one number for each byte; bytes of the same number have the same step."""

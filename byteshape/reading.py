@@ -23,14 +23,20 @@ class Reading:
         self.content = copied(content)
 
 
+def paths_found(shape, data, limit, most):
+    """The paths of the first readings, at most `most` of them. Raises InvalidFile, then TooMany and NotRead."""
+    check_file(data)
+    machine = Machine(shape)
+    return first_paths(machine, all_levels(machine, data, limit), data, most)
+
+
 def paths(shape, data, *, limit=LIMIT):
     """The paths of all readings of a file, in their order.
 
     Raises InvalidFile, then TooMany and NotRead.
     """
-    check_file(data)
     # There are no more readings than ways, so none is left out.
-    return first_paths(Machine(shape), data, limit, limit)
+    return paths_found(shape, data, limit, limit)
 
 
 def values_by(shape, data, path):
@@ -47,8 +53,7 @@ def readings(shape, data, *, limit=LIMIT):
 
 def read(shape, data, *, limit=LIMIT):
     """The first reading of a file. Raises as `paths`."""
-    check_file(data)
-    path = first_paths(Machine(shape), data, limit, 1)[0]
+    path = paths_found(shape, data, limit, 1)[0]
     return Reading(path, content_of(shape.parts, data, path))
 
 

@@ -1,7 +1,7 @@
 """Searching the states of a shape, and the first files that lead to them."""
 
-from byteshape.errors import TooMany
 from byteshape.machine import Machine, joint_classes
+from byteshape.order import Order, file_of
 
 LIMIT = 2000
 
@@ -9,8 +9,7 @@ LIMIT = 2000
 class Search:
     """The result of a search: the states that were found, and the first files to them.
 
-    States with the same first file form a group. `groups` has the number of the group of each state,
-    and `steps` has for each group the number of the group one byte before, and this byte.
+    `groups` has the number of the group of each state; states of one group have the same first file.
     """
 
     def __init__(self, groups, steps):
@@ -20,51 +19,33 @@ class Search:
 
     def file_to(self, state):
         """The first file to a state that was found."""
-        found = []
-        group = self._groups[state]
-        while group > 0:
-            group, byte = self._steps[group]
-            found.append(byte)
-        found.reverse()
-        return found
+        return file_of(self._steps, self._groups[state])
 
 
-def added(group_of, states, number, limit):
-    """Adds those of the states that were not found before to a group, and returns them.
+class StatePlan:
+    """The plan of a search whose nodes are the states of a machine."""
 
-    Raises TooMany if more than `limit` states are found then.
-    """
-    fresh = []
-    for state in states:
-        if state not in group_of:
-            group_of[state] = number
-            fresh.append(state)
-    if len(group_of) > limit:
-        raise TooMany(limit)
-    return fresh
+    def __init__(self, machine):
+        self._machine = machine
 
+    def begin(self):
+        """The states before the first byte."""
+        return [state for state, _ in self._machine.start()]
 
-def behind_byte(machine, states, byte):
-    """The states behind a byte of some states, in the order in which they come."""
-    return [entry[0] for state in states for entry in machine.step(state, byte)]
+    def further(self, state, byte):
+        """The states behind a byte."""
+        return [entry[0] for entry in self._machine.step(state, byte)]
+
+    def bytes_of(self, states):
+        """The least byte of each set of bytes that lead to the same states."""
+        return [least for least, _, _ in joint_classes([(self._machine, state) for state in states])]
 
 
 def searched(machine, limit):
     """The Search of the reached states of a machine. Raises TooMany."""
-    group_of = {}
-    steps = [(0, 0)]
-    groups = [added(group_of, [state for state, _ in machine.start()], 0, limit)]
-    at = 0
-    while at < len(groups):
-        states = groups[at]
-        # The other bytes of a set lead to states that its least byte has led to.
-        for byte, _, _ in joint_classes([(machine, state) for state in states]):
-            fresh = added(group_of, behind_byte(machine, states, byte), len(groups), limit)
-            if fresh:
-                groups.append(fresh)
-                steps.append((at, byte))
-        at += 1
-    return Search(group_of, steps)
+    order = Order(StatePlan(machine), limit)
+    order.go_through()
+    return Search(order.group_of, order.steps)
 
 
 def explore(shape, *, limit=LIMIT):

@@ -1,6 +1,6 @@
 """Shapes: descriptions of the format of binary files."""
 
-from byteshape.errors import InvalidShape, UnknownName
+from byteshape.errors import UnknownName
 from byteshape.items import edited, listed
 from byteshape.rules import list_lengths, require
 

@@ -23,6 +23,13 @@ def second_bytes(item, first):
     return (least, greatest) if least <= greatest else None
 
 
+def weight_of(item, far):
+    """How much each unit of the next byte of a number counts in its value."""
+    if item[2] == 1:
+        return 1
+    return 256 if (far == FRESH) == (item[3] == "big") else 1
+
+
 def take_number(item, far, byte, asked):
     """As `taken`, of a number whose value is asked for later or is not."""
     size, order, low, high = item[2:]

@@ -3,14 +3,8 @@
 A level is a dict: of each state behind some bytes, how many ways that take these bytes are in it.
 """
 
-from byteshape.errors import NotRead, TooMany
-
-
-def checked_level(level, limit):
-    """The level, if it has no more than `limit` ways. Otherwise raises TooMany."""
-    if sum(level.values()) > limit:
-        raise TooMany(limit)
-    return level
+from byteshape.errors import NotRead
+from byteshape.limits import require_few
 
 
 def first_level(machine, limit):
@@ -18,7 +12,8 @@ def first_level(machine, limit):
     level = {}
     for state, _ in machine.start():
         level[state] = level.get(state, 0) + 1
-    return checked_level(level, limit)
+    require_few(sum(level.values()), limit)
+    return level
 
 
 def follow(machine, level, data, before, limit):
@@ -35,7 +30,8 @@ def follow(machine, level, data, before, limit):
                 behind[entry[0]] = behind.get(entry[0], 0) + many
         if not behind:
             raise NotRead(before + len(levels))
-        now = checked_level(behind, limit)
+        require_few(sum(behind.values()), limit)
+        now = behind
         levels.append(now)
     return levels
 
@@ -78,12 +74,19 @@ def states_before(machine, level, byte, goals):
     return found
 
 
-def first_paths(machine, data, limit, most):
-    """The paths of the first readings of a file, at most `most` of them, in their order.
+def state_levels(machine, data):
+    """The levels as far as some way takes the bytes, each a dict of its states; the ways are not counted."""
+    levels = [{state: True for state, _ in machine.start()}]
+    for byte in data:
+        behind = {entry[0]: True for state in levels[-1] for entry in machine.step(state, byte)}
+        if not behind:
+            break
+        levels.append(behind)
+    return levels
 
-    Raises TooMany and NotRead.
-    """
-    levels = all_levels(machine, data, limit)
+
+def first_paths(machine, levels, data, most):
+    """The paths of the first readings of a file that is read, at most `most` of them, in their order."""
     goals = leading(machine, levels, data)
     rows = [(state, list(choices)) for state, choices in machine.start() if state in goals[0]]
     for byte, goal in zip(data, goals[1:]):

@@ -1,6 +1,6 @@
 """Items with usual parts, for the tests."""
 
-from byteshape.errors import InvalidShape
+from byteshape.errors import InvalidShape, TooMany
 from byteshape.shapes import Shape
 
 
@@ -26,3 +26,12 @@ def is_valid(*items):
     except InvalidShape:
         return False
     return True
+
+
+def too_many(ask, limit):
+    """Tells whether a question raises TooMany with just this limit."""
+    try:
+        ask(limit)
+    except TooMany as error:
+        return error.limit == limit
+    return False

@@ -15,6 +15,13 @@ class Maker:
         self.count = 0
         self.checked = False
 
+    def shape(self, least, most):
+        """The shape of some items, or None if they break a rule."""
+        try:
+            return Shape(self.block(0, {}, least, most))
+        except InvalidShape:
+            return None
+
     def name(self):
         self.count += 1
         return "x" + str(self.count)
@@ -85,11 +92,9 @@ class Maker:
 def shape_at_random(seed):
     """A shape that is told by a seed."""
     for further in range(1000):
-        maker = Maker(seed * 1001 + further)
-        try:
-            return Shape(maker.block(0, {}, 2, 7))
-        except InvalidShape:
-            continue
+        made = Maker(seed * 1001 + further).shape(2, 7)
+        if made is not None:
+            return made
     raise AssertionError("no shape found")
 
 
