@@ -212,6 +212,24 @@ class TwoValuesTest(unittest.TestCase):
         items = [("either", "e", [[], [number("a", low=7, high=7)]]), number(size=2, low=0x0707, high=0x0707), shift("f", 1, 2)]
         self.check(items, "n", None)
 
+    def test_same_value_at_two_places(self):
+        # The only file with two readings has the same two bytes twice, so both values are the same.
+        rows = [(1, 240, 0, 1000), (3, 1, 100, 770), (1, 16, 0x0105, 0x0110), (1, 5, 0x0105, 0x0110), (0, 255, 0, 300), (1, 0, 255, 256)]
+        for first, second, low, high in rows:
+            for order in ("big", "little"):
+                told = [first, second] if order == "big" else [second, first]
+                before, behind = [[number(name + str(byte_at), low=byte, high=byte) for byte_at, byte in enumerate(told)] for name in "ab"]
+                items = [("either", "e", [[], before]), number(size=2, order=order, low=low, high=high), ("either", "f", [behind, []])]
+                found = two_ways(shape(*items))
+                self.assertEqual((found.file, found.first, found.second), (told + told, (0, 0), (1, 1)))
+                self.check(items, "n", None)
+
+    def test_greatest_value_alone(self):
+        # The bytes of the smaller weight are 0 in both values.
+        before = [number("a", high=0), number("b", high=0)]
+        behind = [number("c", low=1, high=1), number("d", high=0)]
+        self.check([("either", "e", [[], before]), number(size=2, high=256), ("either", "f", [behind, []])], "n", [0, 0, 1, 0], 0, 256)
+
     def test_numbers_that_are_used(self):
         items = [shift("e", 0, 1), number(high=2), some("b", "n"), some("c")]
         self.check(items, "n", [1, 0, 0], 0, 1)

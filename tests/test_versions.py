@@ -176,6 +176,28 @@ class KeepsTest(unittest.TestCase):
         self.check([number(), number("z", high=0)], [number(size=2, order="little", high=65535)], ["n"], None)
         self.check([number(size=2, high=65535)], [number("z", high=1), number(high=255)], ["n"], ([1, 0], "n", 256, 0))
 
+    def test_same_value_at_two_places(self):
+        # The only file that both shapes read has the same two bytes twice, so both values are the same.
+        for first, second, low, high in [(1, 240, 0, 1000), (3, 1, 100, 770), (1, 16, 0x0105, 0x0110), (0, 255, 0, 300)]:
+            for order in ("big", "little"):
+                told = [first, second] if order == "big" else [second, first]
+                items = [number("a" + str(at), low=byte, high=byte) for at, byte in enumerate(told)]
+                wide = number(size=2, order=order, low=low, high=high)
+                self.check([wide] + items, items + [wide], ["n"], None)
+                self.check(items + [wide], [wide] + items, ["n"], None)
+
+    def test_numbers_of_one_and_two_bytes_at_two_places(self):
+        one = [number(high=255), number("a", high=1), number("b", high=200)]
+        other = [number("x", low=7, high=9), number(size=2, high=700)]
+        self.check(one, other, ["n"], ([7, 0, 0], "n", 7, 0))
+        self.check(other, one, ["n"], ([7, 0, 0], "n", 0, 7))
+        one = [number(low=7, high=7), number("a", high=0), number("b", low=7, high=7)]
+        self.check(one, other, ["n"], None)
+        self.check(other, one, ["n"], None)
+        one = [number(low=7, high=7), number("a", low=1, high=1), number("b", low=7, high=7)]
+        self.check(one, other, ["n"], ([7, 1, 7], "n", 7, 263))
+        self.check(other, one, ["n"], ([7, 1, 7], "n", 263, 7))
+
     def test_names(self):
         one = [number("a", high=3), number("b", high=3), number("c", high=3)]
         other = [number("a", high=3), number("c", high=3), number("b", high=3)]

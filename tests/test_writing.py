@@ -61,7 +61,9 @@ class WriteTest(unittest.TestCase):
         self.assertEqual(write(shape(number(size=2, high=700)), [("n", 515)]), [2, 3])
         self.assertEqual(write(shape(number(size=2, order="little", high=700)), [("n", 515)]), [3, 2])
         self.assertEqual(write(shape(number(size=2, order="little", high=700)), [("n", 5)]), [5, 0])
-        self.assertEqual(write(shape(number(size=2, high=65535)), [("n", 65535)]), [255, 255])
+        for value, told in ((65535, [255, 255]), (256, [1, 0]), (255, [0, 255]), (511, [1, 255]), (65280, [255, 0])):
+            self.assertEqual(write(shape(number(size=2, high=65535)), [("n", value)]), told)
+            self.assertEqual(write(shape(number(size=2, order="little", high=65535)), [("n", value)]), told[::-1])
         self.assertEqual(write(shape(some("b", 3)), [("b", [1, 0, 255])]), [1, 0, 255])
         self.assertEqual(write(shape(("text", "t", 9, 3)), [("t", [1, 2, 3])]), [1, 2, 3, 9])
         self.assertEqual(write(shape(("text", "t", 9, 3)), [("t", [])]), [9])
