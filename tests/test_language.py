@@ -161,6 +161,28 @@ class LanguageTest(unittest.TestCase):
                 self.assertNotIn(name, OF_PYTHON)
                 self.assertNotIn(name, BARRED)
 
+    def test_imports_and_classes_keep_their_names(self):
+        for path, tree in self.each():
+            own = {name.asname or name.name for node in tree.body if isinstance(node, ast.ImportFrom) for name in node.names}
+            own |= {node.name for node in tree.body if isinstance(node, ast.ClassDef)}
+            used = {node.id for node in ast.walk(tree) if isinstance(node, ast.Name) and isinstance(node.ctx, ast.Load)}
+            for function in ast.walk(tree):
+                if isinstance(function, ast.FunctionDef):
+                    self.assertFalse(own & set(bound_names(function)) - {function.name}, (path, function.name))
+            imported = {name.name for node in tree.body if isinstance(node, ast.ImportFrom) for name in node.names}
+            self.assertLessEqual(imported, used, path)
+
+    def test_methods_and_attributes(self):
+        for path, tree in self.each():
+            for node in ast.walk(tree):
+                if isinstance(node, ast.ClassDef):
+                    methods = [part.name for part in node.body if isinstance(part, ast.FunctionDef)]
+                    self.assertEqual(len(methods), len(set(methods)), node.name)
+                    stored = {part.attr for part in ast.walk(node) if isinstance(part, ast.Attribute) and isinstance(part.ctx, ast.Store)}
+                    self.assertFalse(stored & set(methods), node.name)
+                    self.assertFalse(stored & {"items", "keys", "values", "pop", "update", "append", "clear", "extend", "insert", "remove",
+                                               "reverse", "setdefault", "sort", "args", "encode", "decode", "hex", "format"}, node.name)
+
     def test_nodes(self):
         for path, tree in self.each():
             for node in ast.walk(tree):
