@@ -37,6 +37,14 @@ class Lists:
         """The sets (least, greatest, many) of the bytes that lead to the same list; the list is not empty."""
         return self._tables.sets(self.tables(number))
 
+    def how_many(self):
+        """How many lists there are so far."""
+        return len(self._lists)
+
+    def size(self, number):
+        """The number of the states of a list."""
+        return len(self._lists[number])
+
     def can_end(self, number):
         """Tells whether a state of the list is done."""
         return any([self._runs.is_done(state) for state in self._lists[number]])

@@ -1,5 +1,6 @@
 """Files that a shape reads in two ways, or with two values of a number."""
 
+from byteshape.evidence import Finder, Pairs
 from byteshape.machine import LIMIT, Machine
 from byteshape.order import Order, first_goal_file
 from byteshape.outer import DIFFERENT, EQUAL, Comparison, Gauge, require_outer, values_in, weights_of
@@ -32,24 +33,8 @@ def ordered(one, other, known):
     return (other, one, known if known == DIFFERENT else -known)
 
 
-class AnyTwo:
-    """Stands in the place of a Comparison where all runs that have parted are different."""
-
-    def slope(self, one, other, known):
-        """No byte adds to a difference."""
-        return 0
-
-    def known_behind(self, one, other, known, byte):
-        """What was known before."""
-        return known
-
-    def judged(self, one, other, known):
-        """That they are different."""
-        return DIFFERENT
-
-
-class TwicePlan:
-    """The plan of a search for two different runs of one machine over the same file.
+class ValuesPlan:
+    """The plan of a search for two runs of one machine over the same file that a comparison tells apart.
 
     A node is (state,) as long as both runs have taken the same choices. Behind that it is (state, state,
     known), the smaller number first; known is what the comparison knows.
@@ -99,12 +84,10 @@ class TwicePlan:
 
 def two_ways(shape, *, limit=LIMIT):
     """The first file with two readings, a TwoWays, or None. Raises TooMany."""
-    machine = Machine(shape)
-    tables = Tables()
-    plan = TwicePlan(Runs(machine, tables), tables, AnyTwo())
-    file = first_goal_file([Order(plan, limit)])
+    file = first_goal_file([Order(Finder(Pairs(shape)), limit)])
     if file is None:
         return None
+    machine = Machine(shape)
     first, second = first_paths(machine, state_levels(machine, file), file, 2)
     return TwoWays(file, first, second)
 
@@ -119,7 +102,7 @@ def values_plan(shape, name, weight):
     tables = Tables()
     runs = Runs(Machine(shape), tables)
     gauge = Gauge(shape, name)
-    return TwicePlan(runs, tables, Comparison(runs, gauge, runs, gauge, weight))
+    return ValuesPlan(runs, tables, Comparison(runs, gauge, runs, gauge, weight))
 
 
 def two_values(shape, name, *, limit=LIMIT):

@@ -1,6 +1,6 @@
 """Comparing two shapes: which files both of them read, and with the same values."""
 
-from byteshape.lists import Lists
+from byteshape.evidence import Beside, Finder
 from byteshape.machine import LIMIT, Machine
 from byteshape.order import Order, first_goal_file
 from byteshape.outer import DIFFERENT, Comparison, Gauge, require_outer, values_in, weights_of
@@ -15,41 +15,6 @@ class Changed:
         self.name = name
         self.before = before
         self.after = after
-
-
-class CoverPlan:
-    """The plan of a search for a file that `one` reads and `other` does not.
-
-    A node is a state of `one` with the list of the states of `other` behind the same file.
-    """
-
-    def __init__(self, one, other):
-        self._tables = Tables()
-        self._runs = Runs(Machine(one), self._tables)
-        self._lists = Lists(Runs(Machine(other), self._tables), self._tables)
-
-    def begin(self):
-        """The nodes before the first byte."""
-        beside = self._lists.start()
-        return [(state, beside) for state, _ in self._runs.start()]
-
-    def further(self, node, byte):
-        """The nodes behind a byte."""
-        entries = self._runs.step(node[0], byte)
-        if not entries:
-            return []
-        beside = self._lists.step(node[1], byte)
-        return [(state, beside) for state, _ in entries]
-
-    def bytes_of(self, nodes):
-        """The bytes that lead to different nodes."""
-        found = [self._runs.table(state) for state, _ in nodes]
-        # Nodes with the same first file stand beside the same list.
-        return self._tables.least_bytes(found + self._lists.tables(nodes[0][1]))
-
-    def is_goal(self, node):
-        """Tells whether only `one` can end here."""
-        return self._runs.is_done(node[0]) and not self._lists.can_end(node[1])
 
 
 class KeepPlan:
@@ -94,14 +59,19 @@ class KeepPlan:
         return [(one, other, self._comparison.judged(one, other, known)) for one, other in pairs]
 
 
+def cover_order(one, other, limit):
+    """The Order of the runs of `one` beside the lists of `other`. Raises TooMany."""
+    return Order(Finder(Beside(one, other)), limit)
+
+
 def covers(one, other, *, limit=LIMIT):
     """The first file that `one` reads and `other` does not read, or None. Raises TooMany."""
-    return first_goal_file([Order(CoverPlan(one, other), limit)])
+    return first_goal_file([cover_order(one, other, limit)])
 
 
 def same_files(one, other, *, limit=LIMIT):
     """The first file that exactly one of two shapes reads, or None. Raises TooMany."""
-    return first_goal_file([Order(CoverPlan(one, other), limit), Order(CoverPlan(other, one), limit)])
+    return first_goal_file([cover_order(one, other, limit), cover_order(other, one, limit)])
 
 
 def keeps(one, other, names, *, limit=LIMIT):

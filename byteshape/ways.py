@@ -85,6 +85,12 @@ def state_levels(machine, data):
     return levels
 
 
+def reads(machine, data):
+    """Tells whether a machine reads a file, however many ways take its bytes."""
+    levels = state_levels(machine, data)
+    return len(levels) == len(data) + 1 and any_done(machine, levels[-1])
+
+
 def first_paths(machine, levels, data, most):
     """The paths of the first readings of a file that is read, at most `most` of them, in their order."""
     goals = leading(machine, levels, data)

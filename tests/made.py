@@ -3,6 +3,8 @@
 from byteshape.errors import InvalidShape, TooMany
 from byteshape.shapes import Shape
 
+NO_FILES = [[0] * 4097, [-1], [256], [True], [False], [0, None], ["0"], [[0]], "ab", None, (1, 2)]
+
 
 def number(name="n", size=1, order="big", low=0, high=9):
     """A number."""

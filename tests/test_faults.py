@@ -9,11 +9,9 @@ from byteshape.faults import Fault, fault, first_cut, first_wrong
 from byteshape.machine import Machine
 from byteshape.reading import is_read
 from byteshape.shapes import Shape
-from made import number, shape, some, too_many
+from made import NO_FILES, number, shape, some, too_many
 from naive import Ways
 from shapes_at_random import file_at_random, shape_at_random
-
-NO_FILES = ([0] * 4097, [-1], [256], [True], [False], [0, None], ["0"], [[0]], "ab", None, (1, 2))
 
 
 def fields(told):
