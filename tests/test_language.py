@@ -86,6 +86,27 @@ def stored(tree):
     return found
 
 
+def tables(tree):
+    """The names of the lists and dicts at module level."""
+    return [node.targets[0].id for node in tree.body if isinstance(node, ast.Assign) and isinstance(node.value, (ast.List, ast.Dict))]
+
+
+def passed_on(tree, names):
+    """The lines in which a list or dict of module level (L15) is not just looked into."""
+    found = []
+    for node in ast.walk(tree):
+        for part in ast.iter_child_nodes(node):
+            if not (isinstance(part, ast.Name) and part.id in names and isinstance(part.ctx, ast.Load)):
+                continue
+            fits = isinstance(node, (ast.Subscript, ast.Attribute)) and part is node.value
+            fits = fits or isinstance(node, (ast.For, ast.comprehension)) and part is node.iter
+            fits = fits or isinstance(node, ast.Compare) and part is not node.left
+            fits = fits or isinstance(node, ast.Call) and called(node) in ("len", "list", "dict", "sorted")
+            if not fits:
+                found.append(part.lineno)
+    return found
+
+
 class LanguageTest(unittest.TestCase):
     def each(self):
         return [(path, parsed(path)) for path in FILES]
@@ -211,6 +232,30 @@ class LanguageTest(unittest.TestCase):
             for node in ast.walk(tree):
                 if isinstance(node, ast.Compare) and isinstance(node.ops[0], (ast.Is, ast.IsNot)):
                     self.assertIsInstance(node.comparators[0], ast.Constant)
+
+    def test_tables_at_module_level(self):
+        names = [name for _, tree in self.each() for name in tables(tree)]
+        self.assertTrue(names)
+        for path, tree in self.each():
+            self.assertEqual(passed_on(tree, names), [], path)
+        for text in ("take(WORDS)", "return_value = WORDS", "{**WORDS}", "found.extend(WORDS)", "f(*WORDS)", "[WORDS]"):
+            self.assertEqual(passed_on(ast.parse(text), ["WORDS"]), [1], text)
+        for text in ("WORDS[k]", "WORDS.get(k)", "k in WORDS", "len(WORDS)", "dict(WORDS)", "[k for k in WORDS]"):
+            self.assertEqual(passed_on(ast.parse(text), ["WORDS"]), [], text)
+
+    def test_methods_and_attributes_of_other_classes(self):
+        # A name that is a method here and an attribute there (L18) is read off objects only, and has no decorator.
+        classes = [node for _, tree in self.each() for node in ast.walk(tree) if isinstance(node, ast.ClassDef)]
+        methods = [part for node in classes for part in node.body if isinstance(part, ast.FunctionDef)]
+        names = {node.name for node in classes}
+        stored_names = {part.attr for node in classes for part in ast.walk(node) if isinstance(part, ast.Attribute) and isinstance(part.ctx, ast.Store)}
+        for method in methods:
+            if method.name in stored_names:
+                self.assertEqual(method.decorator_list, [], method.name)
+        for _, tree in self.each():
+            for node in ast.walk(tree):
+                if isinstance(node, ast.Attribute) and isinstance(node.value, ast.Name):
+                    self.assertNotIn(node.value.id, names)
 
     def test_walked_at_once(self):
         for path, tree in self.each():
