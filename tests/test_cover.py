@@ -234,6 +234,11 @@ class SuiteTest(unittest.TestCase):
         self.assertEqual(feature_files(made), [(("least", "n"), [0, 0]), (("greatest", "n"), [1, 0]), (("choice", "e", 0), [0, 0]), (("choice", "e", 1), [0, 1])])
         self.assertEqual(file_suite(made), [[1, 0], [0, 1]])
 
+    def test_a_file_is_needed_when_another_one_is_left_out(self):
+        made = shape(("either", "e", [[number("a", high=5)], [number("b", low=3)], [number("c", low=6)]]))
+        self.assertEqual([file for _, file in feature_files(made)], [[0], [3], [6]])
+        self.assertEqual(file_suite(made), [[3], [6]])
+
     def test_no_features(self):
         made = shape(some("b", 2))
         self.assertEqual((features(made), feature_files(made), file_suite(made)), ([], [], []))
